@@ -1,0 +1,1 @@
+"""Lifts in a house, tick by tick."""
