@@ -5,10 +5,12 @@ An answer is a pair: a number, below 0 if the call is refused, and a list of num
 
 from lifthouse.cars import DOORS_BEGIN, DOORS_SHUT, DOORS_STAND, DOWN, UP
 from lifthouse.cars import Car, pass_quietly, quiet_ticks, tick_car
-from lifthouse.reckoning import first_car
+from lifthouse.persons import LEFT, Person, note_entering, note_leaving, state_of, ticks_inside, ticks_waited
+from lifthouse.reckoning import first_of, reckoned_of_all
 
 WRONG_NUMBER = -1
 TOO_MANY_PERSONS = -2
+CALL_IS_HAD = -3
 
 MOST_PERSONS = 200
 MOST_TICKS = 2000
@@ -28,20 +30,21 @@ class House:
         self.plan = plan
         self.now = 0
         self.cars = [Car() for number in range(plan.car_count)]
-        self.wanted = []
+        self.persons = []
+        # By call: the numbers of those who wait, in the order in which they came.
         self.waiting = {}
 
     def come(self, floor, goal):
         floors = self.plan.floors
         if floor >= floors or goal >= floors or floor == goal:
             return (WRONG_NUMBER, [])
-        person = len(self.wanted)
-        if person >= MOST_PERSONS:
+        who = len(self.persons)
+        if who >= MOST_PERSONS:
             return (TOO_MANY_PERSONS, [])
         call = (floor, UP if goal > floor else DOWN)
-        self.wanted.append(goal)
-        self.waiting[call] = self.who_waits(call) + [person]
-        return (person, self.press(call))
+        self.persons.append(Person(floor, goal, self.now))
+        self.waiting[call] = self.who_waits(call) + [who]
+        return (who, self.press(call))
 
     def run(self, ticks):
         if ticks > MOST_TICKS:
@@ -67,15 +70,50 @@ class House:
             told.extend(call)
         return (len(car.inside), told)
 
+    def tell_waiting(self, floor, direction):
+        if not self.is_call(floor, direction):
+            return (WRONG_NUMBER, [])
+        queue = self.who_waits((floor, direction))
+        return (len(queue), list(queue))
+
+    def tell_person(self, who):
+        if who >= len(self.persons):
+            return (WRONG_NUMBER, [])
+        person = self.persons[who]
+        return (state_of(person), [person.origin, person.goal, person.came, person.entered, person.left])
+
+    def guess(self, floor, direction):
+        if not self.is_call(floor, direction):
+            return (WRONG_NUMBER, [])
+        call = (floor, direction)
+        if self.is_had(call):
+            return (CALL_IS_HAD, [])
+        reckoned = reckoned_of_all(self.cars, self.plan, call)
+        return (first_of(reckoned), reckoned)
+
+    def tell_sums(self):
+        left = [person for person in self.persons if state_of(person) == LEFT]
+        waited = sum([ticks_waited(person, self.now) for person in self.persons])
+        inside = sum([ticks_inside(person, self.now) for person in self.persons])
+        return (self.now, [len(left), len(self.persons), waited, inside])
+
+    def is_call(self, floor, direction):
+        highest = self.plan.floors - 1
+        if direction == UP:
+            return floor < highest
+        return direction == DOWN and floor > 0 and floor <= highest
+
     def who_waits(self, call):
         return self.waiting.get(call, [])
 
+    def is_had(self, call):
+        return any([call in car.calls for car in self.cars])
+
     def press(self, call):
         """Give the call to a car unless one has it, and tell the event of that."""
-        for car in self.cars:
-            if call in car.calls:
-                return []
-        number = first_car(self.cars, self.plan, call)
+        if self.is_had(call):
+            return []
+        number = first_of(reckoned_of_all(self.cars, self.plan, call))
         self.cars[number].calls.append(call)
         return [self.now, CALL_GIVEN, number, call[0], call[1]]
 
@@ -110,11 +148,12 @@ class House:
         car = self.cars[number]
         events = []
         staying = []
-        for person in car.inside:
-            if self.wanted[person] == floor:
-                events.extend([self.now, SOMEBODY_LEFT, number, floor, person])
+        for who in car.inside:
+            if self.persons[who].goal == floor:
+                note_leaving(self.persons[who], self.now)
+                events.extend([self.now, SOMEBODY_LEFT, number, floor, who])
             else:
-                staying.append(person)
+                staying.append(who)
         car.inside = staying
         return events
 
@@ -125,11 +164,13 @@ class House:
         places = self.plan.room - len(car.inside)
         self.waiting[call] = queue[places:]
         events = []
-        for person in queue[:places]:
-            car.inside.append(person)
-            if self.wanted[person] not in car.pressed:
-                car.pressed.append(self.wanted[person])
-            events.extend([self.now, SOMEBODY_ENTERED, number, floor, person])
+        for who in queue[:places]:
+            person = self.persons[who]
+            note_entering(person, self.now)
+            car.inside.append(who)
+            if person.goal not in car.pressed:
+                car.pressed.append(person.goal)
+            events.extend([self.now, SOMEBODY_ENTERED, number, floor, who])
         return events
 
     def shut(self, number, floor):

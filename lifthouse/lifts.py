@@ -9,16 +9,15 @@ BUILD = 1
 COME = 2
 RUN = 3
 CAR = 4
+WAIT = 5
+PERSON = 6
+GUESS = 7
 
 # By the call's number: how many whole numbers stand behind it.
 ARGUMENT_COUNTS = (0, 7, 2, 1, 1, 2, 1, 2, 0)
 
 # The least and the most of floors, cars, speed, opening, standing, closing, room.
 PLAN_EDGES = ((2, 32), (1, 6), (1, 60), (1, 60), (1, 60), (1, 60), (1, 40))
-
-
-class CallNotWritten(NotImplementedError):
-    """A call that the program doesn't have yet."""
 
 
 class Desk:
@@ -39,13 +38,24 @@ class Desk:
             return self.build(numbers)
         if self.house is None:
             return (NO_HOUSE, [])
-        if call == COME:
-            return self.house.come(numbers[0], numbers[1])
-        if call == RUN:
-            return self.house.run(numbers[0])
-        if call == CAR:
-            return self.house.tell_car(numbers[0])
-        raise CallNotWritten(f"call {call} is not written yet")
+        return reply_of(self.house, call, numbers)
+
+
+def reply_of(house, call, numbers):
+    if call == COME:
+        return house.come(numbers[0], numbers[1])
+    if call == RUN:
+        return house.run(numbers[0])
+    if call == CAR:
+        return house.tell_car(numbers[0])
+    if call == WAIT:
+        return house.tell_waiting(numbers[0], numbers[1])
+    if call == PERSON:
+        return house.tell_person(numbers[0])
+    if call == GUESS:
+        return house.guess(numbers[0], numbers[1])
+    # The one that is left is 8, sums.
+    return house.tell_sums()
 
 
 def told_of(reply):

@@ -1,4 +1,4 @@
-"""Which of several cars would come first for a call."""
+"""After how many ticks each car would come for a call, and which would come first."""
 
 from lifthouse.cars import is_full, pass_quietly, quiet_ticks, tick_car, twin_of
 
@@ -23,7 +23,10 @@ def reckoned_ticks(car, plan, call):
     return LONGEST
 
 
-def first_car(cars, plan, call):
+def reckoned_of_all(cars, plan, call):
+    return [reckoned_ticks(car, plan, call) for car in cars]
+
+
+def first_of(reckoned):
     """The number of the car that would come first, of several the lowest."""
-    ticks = [reckoned_ticks(car, plan, call) for car in cars]
-    return ticks.index(min(ticks))
+    return reckoned.index(min(reckoned))

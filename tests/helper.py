@@ -11,6 +11,12 @@ LEFT = 3
 ENTERED = 4
 SHUT = 5
 
+WAITING = 0
+INSIDE = 1
+GONE = 2
+
+HIGHEST = 4294967295
+
 
 def build(floors=3, cars=1, speed=1, opening=1, standing=1, closing=1, room=1):
     return (1, floors, cars, speed, opening, standing, closing, room)
@@ -26,6 +32,22 @@ def run(ticks):
 
 def car(number):
     return (4, number)
+
+
+def wait(floor, direction):
+    return (5, floor, direction)
+
+
+def person(who):
+    return (6, who)
+
+
+def guess(floor, direction):
+    return (7, floor, direction)
+
+
+def sums():
+    return (8,)
 
 
 def flat(calls):
@@ -102,3 +124,24 @@ def random_plan(chance, most_cars=6):
 def random_come(chance, floors):
     floor = chance.randrange(floors)
     return come(floor, chance.choice([goal for goal in range(floors) if goal != floor]))
+
+
+def calls_of(floors):
+    """Every call (floor, direction) that there is in a house of so many floors."""
+    return [(floor, UP) for floor in range(floors - 1)] + [(floor, DOWN) for floor in range(1, floors)]
+
+
+def no_calls_of(floors):
+    """Calls that there are not: each edge by one, and by much."""
+    wrong = [(floors - 1, UP), (0, DOWN)]
+    for direction in (UP, DOWN):
+        wrong.extend([(floors, direction), (floors + 1, direction), (HIGHEST, direction)])
+    for floor in (0, 1, floors - 1, floors, HIGHEST):
+        wrong.extend([(floor, direction) for direction in (0, 3, 4, HIGHEST)])
+    return wrong
+
+
+def random_goal(chance, floors, call):
+    """A floor that somebody who presses the call may want."""
+    floor, direction = call
+    return chance.randrange(floor + 1, floors) if direction == UP else chance.randrange(floor)

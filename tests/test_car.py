@@ -2,9 +2,7 @@
 
 import unittest
 
-from tests.helper import DOWN, UP, ask, build, car, come, last, run
-
-HIGHEST = 4294967295
+from tests.helper import DOWN, HIGHEST, UP, ask, build, car, come, last, run
 
 
 class CarTest(unittest.TestCase):

@@ -2,9 +2,7 @@
 
 import unittest
 
-from tests.helper import DOWN, GIVEN, UP, ask, build, car, come, events_of, last, run, seen
-
-HIGHEST = 4294967295
+from tests.helper import DOWN, GIVEN, HIGHEST, UP, ask, build, car, come, events_of, last, run, seen
 
 
 class ComeTest(unittest.TestCase):

@@ -1,6 +1,7 @@
 """A part of the language rules that can be seen in the package's files: sizes, signs, words, forms."""
 
 import ast
+import builtins
 import pathlib
 import re
 import unittest
@@ -33,6 +34,12 @@ def nodes():
 
 def defined():
     return {node.name for name, node in nodes() if isinstance(node, (ast.FunctionDef, ast.ClassDef))}
+
+
+def top_names(tree):
+    """The names that a file itself defines at its top."""
+    defs = [node.name for node in tree.body if isinstance(node, (ast.FunctionDef, ast.ClassDef))]
+    return defs + [node.targets[0].id for node in tree.body if isinstance(node, ast.Assign)]
 
 
 class LanguageTest(unittest.TestCase):
@@ -83,6 +90,43 @@ class LanguageTest(unittest.TestCase):
                     self.assertIn(called.attr, list(own) + METHODS, f"{name}: {node.lineno}")
                 else:
                     self.assertIn(called.id, list(own) + BUILTINS, f"{name}: {node.lineno}")
+
+    def test_imports_are_from_the_defining_file(self):
+        tops = {f"lifthouse.{name[:-3]}": set(top_names(ast.parse(text))) for name, text in sources()}
+        for name, node in nodes():
+            if isinstance(node, ast.ImportFrom):
+                for alias in node.names:
+                    self.assertIn(alias.name, tops[node.module], f"{name}: {node.lineno}")
+                    self.assertIsNone(alias.asname, f"{name}: {node.lineno}")
+
+    def test_no_two_files_draw_from_one_another(self):
+        drawn = {f"lifthouse.{name[:-3]}": {node.module for node in ast.walk(ast.parse(text))
+                                            if isinstance(node, ast.ImportFrom)} for name, text in sources()}
+        while drawn:
+            free = [name for name in drawn if not drawn[name] & set(drawn)]
+            self.assertNotEqual(free, [], "a ring of imports")
+            for name in free:
+                drawn.pop(name)
+
+    def test_each_name_of_a_file_is_bound_once(self):
+        for name, text in sources():
+            tree = ast.parse(text)
+            drawn = [alias.name for node in tree.body if isinstance(node, ast.ImportFrom) for alias in node.names]
+            names = top_names(tree) + drawn
+            self.assertEqual(len(names), len(set(names)), name)
+            inner = {node.arg for node in ast.walk(tree) if isinstance(node, ast.arg)}
+            inner |= {node.id for part in tree.body if isinstance(part, (ast.FunctionDef, ast.ClassDef))
+                      for node in ast.walk(part) if isinstance(node, ast.Name) and isinstance(node.ctx, ast.Store)}
+            self.assertEqual(inner & (set(names) | set(dir(builtins))), set(), name)
+
+    def test_no_name_is_a_method_and_a_value(self):
+        methods = {part.name for name, node in nodes() if isinstance(node, ast.ClassDef)
+                   for part in node.body if isinstance(part, ast.FunctionDef)}
+        values = {node.attr for name, node in nodes()
+                  if isinstance(node, ast.Attribute) and isinstance(node.ctx, ast.Store)}
+        self.assertEqual(methods & values, set())
+        pythons = {name for kind in (str, int, list, dict, set, tuple, bytes) for name in dir(kind)}
+        self.assertEqual(((methods | values) & pythons) - {"__init__"}, set())
 
 
 if __name__ == "__main__":

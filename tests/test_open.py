@@ -2,7 +2,7 @@
 
 import unittest
 
-from tests.helper import ask, build, car, come, last, run
+from tests.helper import HIGHEST, ask, build, car, come, last, run
 
 EDGES = {
     "floors": (2, 32),
@@ -13,7 +13,6 @@ EDGES = {
     "closing": (1, 60),
     "room": (1, 40),
 }
-HIGHEST = 4294967295
 
 
 class OpenTest(unittest.TestCase):

@@ -1,10 +1,11 @@
-"""The promises 1, 2, 3, 5 and 6 on many houses, seen from outside (4 is in test_come and test_slow_house)."""
+"""The promises 1, 2, 3, 5 and 6 on many houses, seen from outside (4 is in test_come, test_guess and test_slow_house)."""
 
 import random
 import unittest
 
-from tests.helper import BEGAN, DOWN, ENTERED, GIVEN, LEFT, SHUT, UP, SeenCar
-from tests.helper import ask, build, car, come, events_of, random_come, random_plan, run
+from tests.helper import BEGAN, DOWN, ENTERED, GIVEN, HIGHEST, LEFT, SHUT, UP, SeenCar
+from tests.helper import ask, build, calls_of, car, come, events_of, guess, no_calls_of, person
+from tests.helper import random_come, random_plan, run, sums, wait
 
 SEEDS = range(60)
 
@@ -136,7 +137,8 @@ class PiecesTest(unittest.TestCase):
         for seed in range(40):
             chance = random.Random(seed)
             plan = random_plan(chance)
-            cars = [car(number) for number in range(plan[2])]
+            asked = [car(number) for number in range(plan[2])] + [person(who) for who in range(9)] + [sums()]
+            asked.extend([call for way in calls_of(plan[1])[:9] for call in (wait(*way), guess(*way))])
             at_once = [plan]
             in_pieces = [plan]
             for at in range(20):
@@ -145,12 +147,12 @@ class PiecesTest(unittest.TestCase):
                 call = random_come(chance, plan[1])
                 at_once.extend([call, run(whole)])
                 in_pieces.extend([call, run(cut), run(0)] + [run(1)] * (whole - cut))
-                if len(in_pieces) > 350:
+                if len(in_pieces) > 340:
                     break
-            first = ask(*at_once, *cars)
-            second = ask(*in_pieces, *cars)
+            first = ask(*at_once, *asked)
+            second = ask(*in_pieces, *asked)
             self.assertEqual(self.events(at_once, first), self.events(in_pieces, second), seed)
-            self.assertEqual(first[-len(cars):], second[-len(cars):], seed)
+            self.assertEqual(first[-len(asked):], second[-len(asked):], seed)
 
     def events(self, calls, answers):
         return [event for call, answer in zip(calls, answers) if call[0] in (2, 3) for event in events_of(answer)]
@@ -158,12 +160,13 @@ class PiecesTest(unittest.TestCase):
     def test_two_thousand_ticks_at_once_and_in_pieces(self):
         start = [build(floors=32, cars=2, speed=60, opening=60, standing=60, closing=60, room=2)]
         start += [come(at, 31 - at) for at in range(32)]
-        at_once = ask(*start, run(2000), car(0), car(1))
+        asked = [car(0), car(1), sums(), person(0), person(31), wait(31, DOWN), guess(5, DOWN)]
+        at_once = ask(*start, run(2000), *asked)
         for piece in (1000, 500, 40, 16, 8):
             calls = start + [run(piece)] * (2000 // piece)
-            in_pieces = ask(*calls, car(0), car(1))
-            self.assertEqual(at_once[33][1], [number for answer in in_pieces[33:-2] for number in answer[1]])
-            self.assertEqual(at_once[-2:], in_pieces[-2:])
+            in_pieces = ask(*calls, *asked)
+            self.assertEqual(at_once[33][1], [number for answer in in_pieces[33:-7] for number in answer[1]])
+            self.assertEqual(at_once[-7:], in_pieces[-7:])
 
 
 class RefusedTest(unittest.TestCase):
@@ -175,12 +178,13 @@ class RefusedTest(unittest.TestCase):
             plan = random_plan(chance)
             floors, cars = plan[1], plan[2]
             refused = [build(floors=1), build(cars=7), build(speed=0), build(room=41), come(0, floors), come(floors, 0),
-                       come(1, 1), run(2001), car(cars)]
+                       come(1, 1), run(2001), car(cars), person(199), person(HIGHEST)]
+            refused.extend([ask_for(*way) for way in no_calls_of(floors) for ask_for in (wait, guess)])
             calls = []
             for at in range(60):
                 calls.append(random_come(chance, floors))
                 calls.append(run(chance.choice((0, 1, 2, 5))))
-            calls.extend([car(number) for number in range(cars)])
+            calls.extend([car(number) for number in range(cars)] + [sums(), person(0), wait(0, UP)])
             plain = ask(plan, *calls)
             mixed = ask(plan, *[part for call in calls for part in (chance.choice(refused), call)])
             self.assertEqual(mixed[1::2], [(-1, [])] * len(calls), seed)
@@ -193,9 +197,62 @@ class RefusedTest(unittest.TestCase):
         self.assertEqual([mixed[201], mixed[203]], [(-2, []), (-2, [])])
         self.assertEqual(mixed[:201] + [mixed[202]] + mixed[204:], plain)
 
+    def test_refused_as_some_car_has_the_call(self):
+        start = [build(floors=9, cars=2, room=2), come(3, 8), come(3, 1), come(5, 0)]
+        refused = [guess(3, UP), guess(3, DOWN), guess(5, DOWN)]
+        behind = [car(0), car(1), run(2), sums(), run(40), car(0), car(1), person(2)]
+        mixed = ask(*start, *refused, *behind)
+        self.assertEqual(mixed[4:7], [(-3, [])] * 3)
+        self.assertEqual(mixed[7:], ask(*start, *behind)[4:])
+
     def test_refused_before_there_is_a_house(self):
-        calls = [build(), come(1, 2), run(9), car(0)]
-        self.assertEqual(ask(come(1, 2), run(9), car(0), build(floors=0), *calls)[4:], ask(*calls))
+        calls = [build(), come(1, 2), run(9), car(0), sums()]
+        refused = [come(1, 2), run(9), car(0), wait(1, UP), person(0), guess(1, UP), sums(), build(floors=0)]
+        self.assertEqual(ask(*refused, *calls)[8:], ask(*calls))
+
+
+class AskingTest(unittest.TestCase):
+    """Calls that change nothing: the other answers are the same with and without them."""
+
+    def asking(self, chance, plan):
+        way = chance.choice(calls_of(plan[1]) + no_calls_of(plan[1]))
+        who = chance.choice((0, 1, 5, 30, 199))
+        return chance.choice((wait(*way), guess(*way), person(who), sums(), car(chance.randrange(plan[2] + 1))))
+
+    def test_with_and_without(self):
+        for seed in range(60):
+            chance = random.Random(seed)
+            plan = random_plan(chance)
+            calls = [random_come(chance, plan[1]) if chance.random() < 0.5 else run(chance.choice((0, 1, 2, 9)))
+                     for at in range(100)]
+            mixed = [plan]
+            kept = [0]
+            for call in calls:
+                mixed.extend([self.asking(chance, plan) for times in range(chance.randrange(4))])
+                kept.append(len(mixed))
+                mixed.append(call)
+            told = ask(*mixed)
+            self.assertEqual([told[at] for at in kept], ask(plan, *calls), seed)
+
+    def test_each_kind_by_itself(self):
+        chance = random.Random(3)
+        plan = build(floors=5, cars=3, speed=2, room=2)
+        calls = [random_come(chance, 5) if at % 2 else run(1) for at in range(60)]
+        plain = ask(plan, *calls)
+        for asking in (car(0), car(2), car(3), wait(0, UP), wait(4, DOWN), wait(0, DOWN), person(0), person(29),
+                       person(199), guess(0, UP), guess(2, UP), guess(2, DOWN), guess(4, UP), sums()):
+            with self.subTest(asking=asking):
+                told = ask(plan, *[part for call in calls for part in (asking, call, asking)])
+                self.assertEqual([told[0]] + told[2::3], plain)
+
+    def test_asked_twice_it_tells_the_same(self):
+        for seed in range(20):
+            chance = random.Random(seed)
+            plan = random_plan(chance)
+            calls = [call for at in range(40) for call in (random_come(chance, plan[1]), run(chance.randrange(4)))]
+            asked = [self.asking(chance, plan) for at in range(100)]
+            told = ask(plan, *calls, *[part for call in asked for part in (call, call)])[81:]
+            self.assertEqual(told[::2], told[1::2], seed)
 
 
 class KindsTest(unittest.TestCase):

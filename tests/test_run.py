@@ -2,10 +2,8 @@
 
 import unittest
 
-from tests.helper import BEGAN, DOWN, ENTERED, GIVEN, LEFT, SHUT, UP
+from tests.helper import BEGAN, DOWN, ENTERED, GIVEN, HIGHEST, LEFT, SHUT, UP
 from tests.helper import ask, build, car, come, events_of, last, run, seen
-
-HIGHEST = 4294967295
 
 
 class RunTest(unittest.TestCase):

@@ -1,14 +1,15 @@
 """The program against a second telling of the document: tick by tick, with no tick passed over.
 
 It is written apart from the package, sentence by sentence, and is slow; it serves as a check of
-the answers to long and mixed lists of calls, of promise 4 above all.
+the answers to long and mixed lists of all eight calls, of promise 4 above all.
 """
 
 import copy
 import random
 import unittest
 
-from tests.helper import ask, build, car, come, random_come, random_plan, run
+from tests.helper import ask, build, calls_of, car, come, guess, no_calls_of, person, random_come, random_plan
+from tests.helper import run, sums, wait
 
 
 class SlowHouse:
@@ -83,7 +84,13 @@ class SlowHouse:
     def reckon(self, c, call):
         c = copy.deepcopy(c)
         c["calls"].append(call)
+        been = set()
         for ticks in range(1, 20001):
+            # Stops only become fewer here, so that a car that is once more as it was goes round for ever.
+            now = (c["pos"], c["dir"], c["does"], c["yet"], len(c["pressed"]), len(c["calls"]))
+            if now in been:
+                return 20000
+            been.add(now)
             if c["does"] < 2:
                 self.closed(c)
             else:
@@ -92,8 +99,11 @@ class SlowHouse:
                 return ticks
         return 20000
 
+    def has(self, call):
+        return any(call in c["calls"] for c in self.cars)
+
     def press(self, call):
-        if any(call in c["calls"] for c in self.cars):
+        if self.has(call):
             return
         reckoned = [self.reckon(c, call) for c in self.cars]
         first = reckoned.index(min(reckoned))
@@ -101,7 +111,7 @@ class SlowHouse:
         self.events.append((self.time, 1, first, call[0], call[1]))
 
     def waiting(self, f, d):
-        return [k for k, person in enumerate(self.persons) if person["waits"] and person["call"] == (f, d)]
+        return [k for k, who in enumerate(self.persons) if who["entered"] is None and who["call"] == (f, d)]
 
     def tick(self):
         self.time += 1
@@ -118,11 +128,12 @@ class SlowHouse:
         if does == 3:
             for k in [k for k in c["inside"] if self.persons[k]["goal"] == f]:
                 c["inside"].remove(k)
+                self.persons[k]["left"] = self.time
                 self.events.append((self.time, 3, number, f, k))
             for k in self.waiting(f, c["dir"]):
                 if len(c["inside"]) == self.room:
                     break
-                self.persons[k]["waits"] = False
+                self.persons[k]["entered"] = self.time
                 c["inside"].append(k)
                 if self.persons[k]["goal"] not in c["pressed"]:
                     c["pressed"].append(self.persons[k]["goal"])
@@ -136,7 +147,7 @@ class SlowHouse:
         self.events = []
         if call[0] == 2:
             way = (call[1], 1 if call[2] > call[1] else 2)
-            self.persons.append(dict(goal=call[2], call=way, waits=True))
+            self.persons.append(dict(start=call[1], goal=call[2], call=way, came=self.time, entered=None, left=None))
             self.press(way)
             number = len(self.persons) - 1
         elif call[0] == 3:
@@ -144,8 +155,44 @@ class SlowHouse:
                 self.tick()
             number = len(self.events)
         else:
-            return self.told(self.cars[call[1]])
+            return self.asked(call)
         return (number, [part for event in self.events for part in event])
+
+    def asked(self, call):
+        if call[0] == 4:
+            return self.told(self.cars[call[1]])
+        if call[0] == 6:
+            return self.person(call[1])
+        if call[0] == 8:
+            return self.sums()
+        way = call[1:]
+        if way not in calls_of(self.floors):
+            return (-1, [])
+        if call[0] == 5:
+            return (len(self.waiting(*way)), self.waiting(*way))
+        if self.has(way):
+            return (-3, [])
+        reckoned = [self.reckon(c, way) for c in self.cars]
+        return (reckoned.index(min(reckoned)), reckoned)
+
+    def person(self, k):
+        if k >= len(self.persons):
+            return (-1, [])
+        who = self.persons[k]
+        times = [who["came"], who["entered"], who["left"]]
+        return (2 - times[1:].count(None), [who["start"], who["goal"]] + [0 if at is None else at + 1 for at in times])
+
+    def sums(self):
+        waited = inside = 0
+        for who in self.persons:
+            # Each tick up to now, as it was spent.
+            for at in range(who["came"], self.time):
+                if who["entered"] is None or at < who["entered"]:
+                    waited += 1
+                elif who["left"] is None or at < who["left"]:
+                    inside += 1
+        left = sum(who["left"] is not None for who in self.persons)
+        return (self.time, [left, len(self.persons), waited, inside])
 
     def told(self, c):
         told = [c["pos"], c["dir"], c["does"], c["yet"], len(c["pressed"]), len(c["calls"])]
@@ -166,19 +213,38 @@ class SlowHouseTest(unittest.TestCase):
             calls.append(random_come(chance, plan[1]))
             calls.append(run(chance.choice(pauses)))
             calls.append(car(chance.randrange(plan[2])))
-        return calls + [run(2000)] + [car(number) for number in range(plan[2])]
+            calls.append(self.asking(chance, plan[1], at))
+        return calls + [run(2000), sums()] + [car(number) for number in range(plan[2])]
+
+    def asking(self, chance, floors, at):
+        """One of the calls that change nothing, most often one that is not refused."""
+        way = chance.choice(calls_of(floors) if chance.random() < 0.9 else no_calls_of(floors))
+        return chance.choice((wait(*way), guess(*way), guess(*way), person(chance.randrange(at + 2)), sums()))
 
     def test_many_houses(self):
-        for seed in range(60):
+        for seed in range(100):
             with self.subTest(seed=seed):
                 plan = random_plan(random.Random(seed))
                 self.check(plan, self.mixed(seed, plan, 30, (0, 0, 1, 2, 5, 30)))
 
     def test_many_houses_with_room(self):
-        for seed in range(60):
+        for seed in range(100):
             with self.subTest(seed=seed):
                 plan = random_plan(random.Random(seed))[:7] + (40,)
                 self.check(plan, self.mixed(seed, plan, 60, (0, 0, 0, 1, 3)))
+
+    def test_everything_that_can_be_asked(self):
+        for seed in range(40):
+            with self.subTest(seed=seed):
+                chance = random.Random(seed)
+                plan = random_plan(chance)
+                calls = []
+                for at in range(60):
+                    calls.extend([random_come(chance, plan[1]), run(chance.choice((0, 0, 1, 3, 12)))])
+                for way in calls_of(plan[1]):
+                    calls.extend([wait(*way), guess(*way)])
+                calls.extend([person(who) for who in range(61)] + [sums()])
+                self.check(plan, calls)
 
     def test_a_crowded_house(self):
         plan = build(floors=6, cars=3, speed=2, room=2)
